@@ -2,123 +2,10 @@ package tests
 
 import (
 	"math"
-	"slices"
 	"testing"
 
 	"loop.example/pullstreams/impl"
 )
-
-// strange is a number that no function of the chapter returns.
-const strange = -77
-
-// world has arguments for all functions, each with spare capacity behind it.
-type world struct {
-	e, f impl.Pipe
-	src  [][]int
-	to   []int
-}
-
-// roomy returns a list with spare capacity that is not empty.
-func roomy(list []int) []int {
-	return append(slices.Clone(list), strange, strange, strange)[:len(list)]
-}
-
-// roomyPipe returns a pipe with spare capacity that is not empty.
-func roomyPipe(e impl.Pipe) impl.Pipe {
-	spare := node(strange, strange, strange, strange, strange)
-	return impl.Pipe{Nodes: append(slices.Clone(e.Nodes), spare, spare)[:len(e.Nodes)]}
-}
-
-// newWorld returns arguments.
-func newWorld(e impl.Pipe, src [][]int) world {
-	w := world{e: roomyPipe(e), f: roomyPipe(tangled()), to: roomy([]int{1, 2, 0})}
-	for _, list := range src {
-		w.src = append(w.src, roomy(list))
-	}
-	w.src = append(w.src, []int{strange})[:len(src)]
-	return w
-}
-
-// all returns a list with its spare capacity.
-func all[T any](list []T) []T {
-	return list[:cap(list)]
-}
-
-// sameWorld reports whether all arguments are the same, the spare capacity
-// included.
-func sameWorld(v, w world) bool {
-	same := slices.Equal(all(v.e.Nodes), all(w.e.Nodes)) && slices.Equal(all(v.f.Nodes), all(w.f.Nodes)) && slices.Equal(all(v.to), all(w.to))
-	return same && slices.EqualFunc(all(v.src), all(w.src), func(a, b []int) bool {
-		return slices.Equal(all(a), all(b))
-	})
-}
-
-// copyWorld returns the same arguments in other memory.
-func copyWorld(w world) world {
-	out := world{
-		e:  impl.Pipe{Nodes: slices.Clone(all(w.e.Nodes))[:len(w.e.Nodes):cap(w.e.Nodes)]},
-		f:  impl.Pipe{Nodes: slices.Clone(all(w.f.Nodes))[:len(w.f.Nodes):cap(w.f.Nodes)]},
-		to: slices.Clone(all(w.to))[:len(w.to):cap(w.to)],
-	}
-	for _, list := range all(w.src) {
-		out.src = append(out.src, slices.Clone(all(list))[:len(list):cap(list)])
-	}
-	out.src = out.src[:len(w.src):cap(w.src)]
-	return out
-}
-
-// spoil overwrites a list with its spare capacity.
-func spoil(list []int) {
-	for i := range all(list) {
-		all(list)[i] = strange - 1
-	}
-}
-
-// spoilPipe overwrites a pipe with its spare capacity.
-func spoilPipe(e impl.Pipe) {
-	for i := range all(e.Nodes) {
-		all(e.Nodes)[i] = node(strange-1, 0, 0, 0, 0)
-	}
-}
-
-// spoilWorld overwrites all arguments.
-func spoilWorld(w world) {
-	spoilPipe(w.e)
-	spoilPipe(w.f)
-	spoil(w.to)
-	for _, list := range all(w.src) {
-		spoil(list)
-	}
-}
-
-// call is a function of the chapter, and its result, as a list or as a pipe.
-type call struct {
-	name string
-	run  func(w world) ([]int, impl.Pipe)
-}
-
-// asPipe returns a call of a function that returns a pipe.
-func asPipe(name string, run func(w world) impl.Pipe) call {
-	return call{name, func(w world) ([]int, impl.Pipe) { return nil, run(w) }}
-}
-
-// asList returns a call of a function that returns a list.
-func asList(name string, run func(w world) []int) call {
-	return call{name, func(w world) ([]int, impl.Pipe) { return run(w), impl.Pipe{} }}
-}
-
-// asNumber returns a call of a function that returns a number.
-func asNumber(name string, run func(w world) int) call {
-	return asList(name, func(w world) []int { return []int{run(w)} })
-}
-
-// yes returns 1 for true.
-func yes(is bool) int {
-	if is {
-		return 1
-	}
-	return 0
-}
 
 // callsOfPipes returns a call of each function of the chapter.
 func callsOfPipes() []call {
@@ -141,31 +28,6 @@ func callsOfPipes() []call {
 		out = append(out, asPipe("JoinPipes", func(w world) impl.Pipe { p, _ := impl.JoinPipes(w.e, w.f, kind); return p }))
 	}
 	return out
-}
-
-// checkMemory checks that a call changes no argument, and that its result
-// shares no memory with an argument, or with that of another call.
-func checkMemory(t *testing.T, c call, before world) {
-	t.Helper()
-	w := copyWorld(before)
-	list, e := c.run(w)
-	wantList, wantPipe := slices.Clone(list), impl.Pipe{Nodes: slices.Clone(e.Nodes)}
-	if !sameWorld(w, before) {
-		t.Errorf("%s of %v changes an argument", c.name, before)
-	}
-	again, f := c.run(w)
-	if !slices.Equal(again, wantList) || !samePipe(f, wantPipe) {
-		t.Errorf("%s of %v has another result the second time", c.name, before)
-	}
-	spoil(again)
-	spoilPipe(f)
-	if !sameWorld(w, before) {
-		t.Errorf("the result of %s of %v shares memory with an argument", c.name, before)
-	}
-	spoilWorld(w)
-	if !slices.Equal(list, wantList) || !samePipe(e, wantPipe) {
-		t.Errorf("the result of %s of %v shares memory with an argument or a result", c.name, before)
-	}
 }
 
 func TestMemoryOfPipes(t *testing.T) {

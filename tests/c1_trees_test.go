@@ -149,8 +149,8 @@ func TestP8PipesAreOneDeeper(t *testing.T) {
 	}
 }
 
-// TestP9OrderChangesNothing: OrderPipe has the same list, and is in order
-// already.
+// TestP9OrderChangesNothing: OrderPipe has the same list and pulls, and is in
+// order already.
 func TestP9OrderChangesNothing(t *testing.T) {
 	eachPipe(t, 12, func(e impl.Pipe, src [][]int, _ dice) {
 		o := impl.OrderPipe(e)
@@ -162,6 +162,11 @@ func TestP9OrderChangesNothing(t *testing.T) {
 		}
 		if list := impl.ListOf(e, src); !slices.Equal(impl.ListOf(o, src), list) {
 			t.Errorf("OrderPipe(%v) has another list than %v", e, list)
+		}
+		for _, k := range []int{1, 2, 200} {
+			if !slices.Equal(impl.PullsOf(o, src, k), impl.PullsOf(e, src, k)) {
+				t.Errorf("OrderPipe(%v) has other pulls", e)
+			}
 		}
 	})
 	want := pipe(from(0), over(impl.NkTake, 0, 4, 0), from(2), over(impl.NkMap, 2, 2, 3), both(impl.NkMerge, 1, 3))

@@ -152,6 +152,17 @@ func (d dice) pipe(nodes int) impl.Pipe {
 	return e
 }
 
+// lineOf returns a valid pipe of as many nodes without nodes with two below.
+func (d dice) lineOf(nodes int) impl.Pipe {
+	e := pipe(from(d.IntN(impl.MaxSources)))
+	for i := range nodes - 1 {
+		kind := kindsOfOne[d.IntN(len(kindsOfOne))]
+		n, m := d.numbers(kind)
+		e.Nodes = append(e.Nodes, over(kind, i, n, m))
+	}
+	return e
+}
+
 // src returns valid sources, some of which have no items, or equal neighbours.
 func (d dice) src() [][]int {
 	out := make([][]int, impl.MaxSources)

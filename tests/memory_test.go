@@ -1,0 +1,181 @@
+package tests
+
+import (
+	"slices"
+	"testing"
+
+	"loop.example/pullstreams/impl"
+)
+
+// This file checks for any function that it leaves its arguments as they are,
+// and that its results have memory of their own.
+
+// strange is a number that no function returns.
+const strange = -77
+
+// world has arguments for all functions, each with spare capacity behind it.
+type world struct {
+	e, f impl.Pipe
+	src  [][]int
+	to   []int
+	s    impl.State
+	k    int
+}
+
+// result is what a function returns.
+type result struct {
+	list  []int
+	e     impl.Pipe
+	s     impl.State
+	pulls []impl.Pull
+}
+
+// call is a function, and its result.
+type call struct {
+	name string
+	run  func(w world) result
+}
+
+// roomy returns a list with spare capacity that is not empty.
+func roomy[T any](list []T, spare T) []T {
+	return append(slices.Clone(list), spare, spare, spare)[:len(list)]
+}
+
+// newWorld returns arguments.
+func newWorld(e impl.Pipe, src [][]int) world {
+	n := node(strange, strange, strange, strange, strange)
+	w := world{
+		e:  impl.Pipe{Nodes: roomy(e.Nodes, n)},
+		f:  impl.Pipe{Nodes: roomy(tangled().Nodes, n)},
+		to: roomy([]int{1, 2, 0}, strange),
+	}
+	for _, list := range src {
+		w.src = append(w.src, roomy(list, strange))
+	}
+	w.src = append(w.src, []int{strange})[:len(src)]
+	return w
+}
+
+// withState returns arguments that have a state, and a number of pulls.
+func (w world) withState(s impl.State, k int) world {
+	w.s = impl.State{Cells: roomy(s.Cells, impl.Cell{Count: strange})}
+	w.k = k
+	return w
+}
+
+// all returns a list with its spare capacity.
+func all[T any](list []T) []T {
+	return list[:cap(list)]
+}
+
+// copyAll returns the same list, with the same spare capacity, in other memory.
+func copyAll[T any](list []T) []T {
+	return slices.Clone(all(list))[:len(list):cap(list)]
+}
+
+// spoil overwrites a list with its spare capacity.
+func spoil[T any](list []T, with T) {
+	for i := range all(list) {
+		all(list)[i] = with
+	}
+}
+
+// sameWorld reports whether all arguments are the same, the spare capacity
+// included.
+func sameWorld(v, w world) bool {
+	same := slices.Equal(all(v.e.Nodes), all(w.e.Nodes)) && slices.Equal(all(v.f.Nodes), all(w.f.Nodes)) && slices.Equal(all(v.to), all(w.to))
+	return same && slices.Equal(all(v.s.Cells), all(w.s.Cells)) && slices.EqualFunc(all(v.src), all(w.src), func(a, b []int) bool {
+		return slices.Equal(all(a), all(b))
+	})
+}
+
+// copyWorld returns the same arguments in other memory.
+func copyWorld(w world) world {
+	out := w
+	out.e.Nodes, out.f.Nodes = copyAll(w.e.Nodes), copyAll(w.f.Nodes)
+	out.to, out.s.Cells = copyAll(w.to), copyAll(w.s.Cells)
+	out.src = copyAll(w.src)
+	for i, list := range all(w.src) {
+		all(out.src)[i] = copyAll(list)
+	}
+	return out
+}
+
+// spoilWorld overwrites all arguments.
+func spoilWorld(w world) {
+	spoilResult(result{e: w.e, list: w.to, s: w.s})
+	spoilResult(result{e: w.f})
+	for _, list := range all(w.src) {
+		spoil(list, strange-1)
+	}
+}
+
+// sameResult reports whether two results are the same.
+func sameResult(a, b result) bool {
+	return slices.Equal(a.list, b.list) && samePipe(a.e, b.e) && slices.Equal(a.s.Cells, b.s.Cells) && slices.Equal(a.pulls, b.pulls)
+}
+
+// copyResult returns the same result in other memory.
+func copyResult(r result) result {
+	return result{slices.Clone(r.list), impl.Pipe{Nodes: slices.Clone(r.e.Nodes)}, impl.State{Cells: slices.Clone(r.s.Cells)}, slices.Clone(r.pulls)}
+}
+
+// spoilResult overwrites a result with its spare capacity.
+func spoilResult(r result) {
+	spoil(r.list, strange-1)
+	spoil(r.e.Nodes, node(strange-1, 0, 0, 0, 0))
+	spoil(r.s.Cells, impl.Cell{Count: strange - 1})
+	spoil(r.pulls, impl.Pull{Source: strange - 1})
+}
+
+// asPipe returns a call of a function that returns a pipe.
+func asPipe(name string, run func(w world) impl.Pipe) call {
+	return call{name, func(w world) result { return result{e: run(w)} }}
+}
+
+// asList returns a call of a function that returns a list.
+func asList(name string, run func(w world) []int) call {
+	return call{name, func(w world) result { return result{list: run(w)} }}
+}
+
+// asNumber returns a call of a function that returns a number.
+func asNumber(name string, run func(w world) int) call {
+	return asList(name, func(w world) []int { return []int{run(w)} })
+}
+
+// asState returns a call of a function that returns a state.
+func asState(name string, run func(w world) impl.State) call {
+	return call{name, func(w world) result { return result{s: run(w)} }}
+}
+
+// yes returns 1 for true.
+func yes(is bool) int {
+	if is {
+		return 1
+	}
+	return 0
+}
+
+// checkMemory checks that a call changes no argument, and that its result
+// shares no memory with an argument, or with that of another call.
+func checkMemory(t *testing.T, c call, before world) {
+	t.Helper()
+	w := copyWorld(before)
+	first := c.run(w)
+	want := copyResult(first)
+	if !sameWorld(w, before) {
+		t.Errorf("%s of %v changes an argument", c.name, before)
+	}
+	again := c.run(w)
+	if !sameResult(again, want) {
+		t.Errorf("%s of %v has another result the second time", c.name, before)
+	}
+	spoilResult(again)
+	if !sameWorld(w, before) {
+		t.Errorf("the result of %s of %v shares memory with an argument", c.name, before)
+	}
+	spoilWorld(w)
+	if !sameResult(first, want) {
+		t.Errorf("the result of %s of %v shares memory with an argument or a result", c.name, before)
+	}
+}
