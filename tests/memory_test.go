@@ -15,11 +15,12 @@ const strange = -77
 
 // world has arguments for all functions, each with spare capacity behind it.
 type world struct {
-	e, f impl.Pipe
-	src  [][]int
-	to   []int
-	s    impl.State
-	k    int
+	e, f  impl.Pipe
+	src   [][]int
+	other [][]int
+	to    []int
+	s     impl.State
+	k     int
 }
 
 // result is what a function returns.
@@ -28,6 +29,7 @@ type result struct {
 	e     impl.Pipe
 	s     impl.State
 	pulls []impl.Pull
+	lists [][]int
 }
 
 // call is a function, and its result.
@@ -44,22 +46,34 @@ func roomy[T any](list []T, spare T) []T {
 // newWorld returns arguments.
 func newWorld(e impl.Pipe, src [][]int) world {
 	n := node(strange, strange, strange, strange, strange)
-	w := world{
-		e:  impl.Pipe{Nodes: roomy(e.Nodes, n)},
-		f:  impl.Pipe{Nodes: roomy(tangled().Nodes, n)},
-		to: roomy([]int{1, 2, 0}, strange),
+	return world{
+		e:   impl.Pipe{Nodes: roomy(e.Nodes, n)},
+		f:   impl.Pipe{Nodes: roomy(tangled().Nodes, n)},
+		src: roomyLists(src),
+		to:  roomy([]int{1, 2, 0}, strange),
 	}
-	for _, list := range src {
-		w.src = append(w.src, roomy(list, strange))
+}
+
+// roomyLists returns lists with spare capacity, in one with spare capacity.
+func roomyLists(lists [][]int) [][]int {
+	var out [][]int
+	for _, list := range lists {
+		out = append(out, roomy(list, strange))
 	}
-	w.src = append(w.src, []int{strange})[:len(src)]
-	return w
+	return append(out, []int{strange})[:len(lists)]
 }
 
 // withState returns arguments that have a state, and a number of pulls.
 func (w world) withState(s impl.State, k int) world {
 	w.s = impl.State{Cells: roomy(s.Cells, impl.Cell{Count: strange})}
 	w.k = k
+	return w
+}
+
+// withOther returns arguments that have other sources, numbers for each source,
+// and a number of pulls.
+func (w world) withOther(other [][]int, to []int, k int) world {
+	w.other, w.to, w.k = roomyLists(other), roomy(to, strange), k
 	return w
 }
 
@@ -84,9 +98,24 @@ func spoil[T any](list []T, with T) {
 // included.
 func sameWorld(v, w world) bool {
 	same := slices.Equal(all(v.e.Nodes), all(w.e.Nodes)) && slices.Equal(all(v.f.Nodes), all(w.f.Nodes)) && slices.Equal(all(v.to), all(w.to))
-	return same && slices.Equal(all(v.s.Cells), all(w.s.Cells)) && slices.EqualFunc(all(v.src), all(w.src), func(a, b []int) bool {
-		return slices.Equal(all(a), all(b))
+	return same && slices.Equal(all(v.s.Cells), all(w.s.Cells)) && sameLists(v.src, w.src) && sameLists(v.other, w.other)
+}
+
+// sameLists reports whether lists are the same, the spare capacity included.
+func sameLists(a, b [][]int) bool {
+	return slices.EqualFunc(all(a), all(b), func(x, y []int) bool {
+		return slices.Equal(all(x), all(y))
 	})
+}
+
+// copyLists returns the same lists, with the same spare capacity, in other
+// memory.
+func copyLists(lists [][]int) [][]int {
+	out := copyAll(lists)
+	for i, list := range all(lists) {
+		all(out)[i] = copyAll(list)
+	}
+	return out
 }
 
 // copyWorld returns the same arguments in other memory.
@@ -94,30 +123,24 @@ func copyWorld(w world) world {
 	out := w
 	out.e.Nodes, out.f.Nodes = copyAll(w.e.Nodes), copyAll(w.f.Nodes)
 	out.to, out.s.Cells = copyAll(w.to), copyAll(w.s.Cells)
-	out.src = copyAll(w.src)
-	for i, list := range all(w.src) {
-		all(out.src)[i] = copyAll(list)
-	}
+	out.src, out.other = copyLists(w.src), copyLists(w.other)
 	return out
 }
 
 // spoilWorld overwrites all arguments.
 func spoilWorld(w world) {
-	spoilResult(result{e: w.e, list: w.to, s: w.s})
-	spoilResult(result{e: w.f})
-	for _, list := range all(w.src) {
-		spoil(list, strange-1)
-	}
+	spoilResult(result{e: w.e, list: w.to, s: w.s, lists: w.src})
+	spoilResult(result{e: w.f, lists: w.other})
 }
 
 // sameResult reports whether two results are the same.
 func sameResult(a, b result) bool {
-	return slices.Equal(a.list, b.list) && samePipe(a.e, b.e) && slices.Equal(a.s.Cells, b.s.Cells) && slices.Equal(a.pulls, b.pulls)
+	return slices.Equal(a.list, b.list) && samePipe(a.e, b.e) && slices.Equal(a.s.Cells, b.s.Cells) && slices.Equal(a.pulls, b.pulls) && sameSources(a.lists, b.lists)
 }
 
 // copyResult returns the same result in other memory.
 func copyResult(r result) result {
-	return result{slices.Clone(r.list), impl.Pipe{Nodes: slices.Clone(r.e.Nodes)}, impl.State{Cells: slices.Clone(r.s.Cells)}, slices.Clone(r.pulls)}
+	return result{slices.Clone(r.list), impl.Pipe{Nodes: slices.Clone(r.e.Nodes)}, impl.State{Cells: slices.Clone(r.s.Cells)}, slices.Clone(r.pulls), copyLists(r.lists)}
 }
 
 // spoilResult overwrites a result with its spare capacity.
@@ -126,6 +149,23 @@ func spoilResult(r result) {
 	spoil(r.e.Nodes, node(strange-1, 0, 0, 0, 0))
 	spoil(r.s.Cells, impl.Cell{Count: strange - 1})
 	spoil(r.pulls, impl.Pull{Source: strange - 1})
+	for _, list := range all(r.lists) {
+		spoil(list, strange-1)
+	}
+	spoil(r.lists, []int{strange - 1})
+}
+
+// apart reports whether no two lists share memory. It overwrites each one.
+func apart(lists [][]int) bool {
+	for i, list := range all(lists) {
+		spoil(list, i)
+	}
+	for i, list := range all(lists) {
+		if slices.ContainsFunc(all(list), func(x int) bool { return x != i }) {
+			return false
+		}
+	}
+	return true
 }
 
 // asPipe returns a call of a function that returns a pipe.
@@ -169,6 +209,9 @@ func checkMemory(t *testing.T, c call, before world) {
 	again := c.run(w)
 	if !sameResult(again, want) {
 		t.Errorf("%s of %v has another result the second time", c.name, before)
+	}
+	if !apart(again.lists) {
+		t.Errorf("the lists of the result of %s of %v share memory", c.name, before)
 	}
 	spoilResult(again)
 	if !sameWorld(w, before) {
