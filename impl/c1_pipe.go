@@ -139,14 +139,23 @@ func (t fork) addTo(nodes []Node) []Node {
 
 // treeAt returns the tree of the node i of a valid pipe.
 func treeAt(e Pipe, i int) tree {
+	return treeWith(e, i, noNode, nil)
+}
+
+// treeWith returns the tree of the node i of a valid pipe in which another tree
+// stands in the place of the node at.
+func treeWith(e Pipe, i, at int, other tree) tree {
+	if i == at {
+		return other
+	}
 	n := e.Nodes[i]
 	switch nodesBelow(n.Kind) {
 	case 0:
 		return leaf{n}
 	case 1:
-		return stem{n, treeAt(e, n.A)}
+		return stem{n, treeWith(e, n.A, at, other)}
 	}
-	return fork{n, treeAt(e, n.A), treeAt(e, n.B)}
+	return fork{n, treeWith(e, n.A, at, other), treeWith(e, n.B, at, other)}
 }
 
 // treeOf returns the tree of the end of a valid pipe.
@@ -478,9 +487,14 @@ func OrderPipe(e Pipe) Pipe {
 	return pipeOf(treeOf(e))
 }
 
+// hasNode reports whether a pipe is valid, and has the node i.
+func hasNode(e Pipe, i int) bool {
+	return ValidPipe(e) && within(i, 0, len(e.Nodes)-1)
+}
+
 // PartOf returns the pipe of a node.
 func PartOf(e Pipe, i int) Pipe {
-	if !ValidPipe(e) || !within(i, 0, len(e.Nodes)-1) {
+	if !hasNode(e, i) {
 		return Pipe{}
 	}
 	return pipeOf(treeAt(e, i))

@@ -160,12 +160,13 @@ func TestP9OrderChangesNothing(t *testing.T) {
 		if !samePipe(impl.OrderPipe(o), o) {
 			t.Errorf("OrderPipe(%v) = %v is not in order", e, o)
 		}
-		if list := impl.ListOf(e, src); !slices.Equal(impl.ListOf(o, src), list) {
+		list := impl.ListOf(e, src)
+		if !slices.Equal(impl.ListOf(o, src), list) {
 			t.Errorf("OrderPipe(%v) has another list than %v", e, list)
 		}
-		for _, k := range []int{1, 2, 200} {
-			if !slices.Equal(impl.PullsOf(o, src, k), impl.PullsOf(e, src, k)) {
-				t.Errorf("OrderPipe(%v) has other pulls", e)
+		for _, k := range numbersOfPulls(len(list)) {
+			if !slices.Equal(impl.FirstItems(o, src, k), impl.FirstItems(e, src, k)) || !samePulls(impl.PullsOf(o, src, k), impl.PullsOf(e, src, k)) {
+				t.Errorf("%d pulls of OrderPipe(%v) give other items, or make other pulls", k, e)
 			}
 		}
 	})

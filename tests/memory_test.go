@@ -63,6 +63,13 @@ func roomyLists(lists [][]int) [][]int {
 	return append(out, []int{strange})[:len(lists)]
 }
 
+// withPipe returns arguments that have another pipe, and the number of a node.
+func (w world) withPipe(f impl.Pipe, i int) world {
+	w.f = impl.Pipe{Nodes: roomy(f.Nodes, node(strange, strange, strange, strange, strange))}
+	w.k = i
+	return w
+}
+
 // withState returns arguments that have a state, and a number of pulls.
 func (w world) withState(s impl.State, k int) world {
 	w.s = impl.State{Cells: roomy(s.Cells, impl.Cell{Count: strange})}
