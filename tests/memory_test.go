@@ -20,6 +20,7 @@ type world struct {
 	other [][]int
 	to    []int
 	s     impl.State
+	tee   impl.Tee
 	k     int
 }
 
@@ -30,6 +31,7 @@ type result struct {
 	s     impl.State
 	pulls []impl.Pull
 	lists [][]int
+	tee   impl.Tee
 }
 
 // call is a function, and its result.
@@ -84,6 +86,13 @@ func (w world) withOther(other [][]int, to []int, k int) world {
 	return w
 }
 
+// withTee returns arguments that have a tee, turns, and the number of a reader.
+func (w world) withTee(t impl.Tee, turns []int, c int) world {
+	w.tee = impl.Tee{Items: roomy(t.Items, strange), Fed: t.Fed, Places: roomy(t.Places, strange), Open: roomy(t.Open, true)}
+	w.to, w.k = roomy(turns, strange), c
+	return w
+}
+
 // all returns a list with its spare capacity.
 func all[T any](list []T) []T {
 	return list[:cap(list)]
@@ -105,7 +114,19 @@ func spoil[T any](list []T, with T) {
 // included.
 func sameWorld(v, w world) bool {
 	same := slices.Equal(all(v.e.Nodes), all(w.e.Nodes)) && slices.Equal(all(v.f.Nodes), all(w.f.Nodes)) && slices.Equal(all(v.to), all(w.to))
-	return same && slices.Equal(all(v.s.Cells), all(w.s.Cells)) && sameLists(v.src, w.src) && sameLists(v.other, w.other)
+	same = same && slices.Equal(all(v.s.Cells), all(w.s.Cells)) && sameTee(allTee(v.tee), allTee(w.tee))
+	return same && sameLists(v.src, w.src) && sameLists(v.other, w.other)
+}
+
+// allTee returns a tee with the spare capacity of its lists.
+func allTee(t impl.Tee) impl.Tee {
+	return impl.Tee{Items: all(t.Items), Fed: t.Fed, Places: all(t.Places), Open: all(t.Open)}
+}
+
+// copyAllTee returns the same tee, with the same spare capacity, in other
+// memory.
+func copyAllTee(t impl.Tee) impl.Tee {
+	return impl.Tee{Items: copyAll(t.Items), Fed: t.Fed, Places: copyAll(t.Places), Open: copyAll(t.Open)}
 }
 
 // sameLists reports whether lists are the same, the spare capacity included.
@@ -131,23 +152,25 @@ func copyWorld(w world) world {
 	out.e.Nodes, out.f.Nodes = copyAll(w.e.Nodes), copyAll(w.f.Nodes)
 	out.to, out.s.Cells = copyAll(w.to), copyAll(w.s.Cells)
 	out.src, out.other = copyLists(w.src), copyLists(w.other)
+	out.tee = copyAllTee(w.tee)
 	return out
 }
 
 // spoilWorld overwrites all arguments.
 func spoilWorld(w world) {
 	spoilResult(result{e: w.e, list: w.to, s: w.s, lists: w.src})
-	spoilResult(result{e: w.f, lists: w.other})
+	spoilResult(result{e: w.f, lists: w.other, tee: w.tee})
 }
 
 // sameResult reports whether two results are the same.
 func sameResult(a, b result) bool {
-	return slices.Equal(a.list, b.list) && samePipe(a.e, b.e) && slices.Equal(a.s.Cells, b.s.Cells) && slices.Equal(a.pulls, b.pulls) && sameSources(a.lists, b.lists)
+	same := slices.Equal(a.list, b.list) && samePipe(a.e, b.e) && slices.Equal(a.s.Cells, b.s.Cells)
+	return same && slices.Equal(a.pulls, b.pulls) && sameSources(a.lists, b.lists) && sameTee(a.tee, b.tee)
 }
 
 // copyResult returns the same result in other memory.
 func copyResult(r result) result {
-	return result{slices.Clone(r.list), impl.Pipe{Nodes: slices.Clone(r.e.Nodes)}, impl.State{Cells: slices.Clone(r.s.Cells)}, slices.Clone(r.pulls), copyLists(r.lists)}
+	return result{slices.Clone(r.list), impl.Pipe{Nodes: slices.Clone(r.e.Nodes)}, impl.State{Cells: slices.Clone(r.s.Cells)}, slices.Clone(r.pulls), copyLists(r.lists), copyAllTee(r.tee)}
 }
 
 // spoilResult overwrites a result with its spare capacity.
@@ -160,6 +183,11 @@ func spoilResult(r result) {
 		spoil(list, strange-1)
 	}
 	spoil(r.lists, []int{strange - 1})
+	spoil(r.tee.Items, strange-1)
+	spoil(r.tee.Places, strange-1)
+	for c, open := range all(r.tee.Open) {
+		all(r.tee.Open)[c] = !open // neither of the two values is strange
+	}
 }
 
 // apart reports whether no two lists share memory. It overwrites each one.
@@ -217,7 +245,7 @@ func checkMemory(t *testing.T, c call, before world) {
 	if !sameResult(again, want) {
 		t.Errorf("%s of %v has another result the second time", c.name, before)
 	}
-	if !apart(again.lists) {
+	if !apart(slices.Concat(again.lists, [][]int{again.tee.Items, again.tee.Places})) {
 		t.Errorf("the lists of the result of %s of %v share memory", c.name, before)
 	}
 	spoilResult(again)
