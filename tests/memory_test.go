@@ -22,6 +22,10 @@ type world struct {
 	s     impl.State
 	tee   impl.Tee
 	k     int
+
+	code, outer []impl.Order
+	g           impl.Gen
+	resumes     []impl.Resume
 }
 
 // result is what a function returns.
@@ -32,6 +36,8 @@ type result struct {
 	pulls []impl.Pull
 	lists [][]int
 	tee   impl.Tee
+
+	events []impl.Event
 }
 
 // call is a function, and its result.
@@ -93,6 +99,15 @@ func (w world) withTee(t impl.Tee, turns []int, c int) world {
 	return w
 }
 
+// withCodes returns arguments that have two codes, a generator of the first one,
+// resumes, and a number of them.
+func (w world) withCodes(code, outer []impl.Order, g impl.Gen, list []impl.Resume, k int) world {
+	o := order(strange, strange, strange)
+	w.code, w.outer, w.g = roomy(code, o), roomy(outer, o), g
+	w.resumes, w.k = roomy(list, resume(strange, strange)), k
+	return w
+}
+
 // all returns a list with its spare capacity.
 func all[T any](list []T) []T {
 	return list[:cap(list)]
@@ -115,6 +130,7 @@ func spoil[T any](list []T, with T) {
 func sameWorld(v, w world) bool {
 	same := slices.Equal(all(v.e.Nodes), all(w.e.Nodes)) && slices.Equal(all(v.f.Nodes), all(w.f.Nodes)) && slices.Equal(all(v.to), all(w.to))
 	same = same && slices.Equal(all(v.s.Cells), all(w.s.Cells)) && sameTee(allTee(v.tee), allTee(w.tee))
+	same = same && slices.Equal(all(v.code), all(w.code)) && slices.Equal(all(v.outer), all(w.outer)) && slices.Equal(all(v.resumes), all(w.resumes))
 	return same && sameLists(v.src, w.src) && sameLists(v.other, w.other)
 }
 
@@ -153,6 +169,7 @@ func copyWorld(w world) world {
 	out.to, out.s.Cells = copyAll(w.to), copyAll(w.s.Cells)
 	out.src, out.other = copyLists(w.src), copyLists(w.other)
 	out.tee = copyAllTee(w.tee)
+	out.code, out.outer, out.resumes = copyAll(w.code), copyAll(w.outer), copyAll(w.resumes)
 	return out
 }
 
@@ -160,17 +177,21 @@ func copyWorld(w world) world {
 func spoilWorld(w world) {
 	spoilResult(result{e: w.e, list: w.to, s: w.s, lists: w.src})
 	spoilResult(result{e: w.f, lists: w.other, tee: w.tee})
+	spoil(w.code, order(strange-1, 0, 0))
+	spoil(w.outer, order(strange-1, 0, 0))
+	spoil(w.resumes, resume(strange-1, 0))
 }
 
 // sameResult reports whether two results are the same.
 func sameResult(a, b result) bool {
 	same := slices.Equal(a.list, b.list) && samePipe(a.e, b.e) && slices.Equal(a.s.Cells, b.s.Cells)
-	return same && slices.Equal(a.pulls, b.pulls) && sameSources(a.lists, b.lists) && sameTee(a.tee, b.tee)
+	same = same && slices.Equal(a.pulls, b.pulls) && sameSources(a.lists, b.lists) && sameTee(a.tee, b.tee)
+	return same && slices.Equal(a.events, b.events)
 }
 
 // copyResult returns the same result in other memory.
 func copyResult(r result) result {
-	return result{slices.Clone(r.list), impl.Pipe{Nodes: slices.Clone(r.e.Nodes)}, impl.State{Cells: slices.Clone(r.s.Cells)}, slices.Clone(r.pulls), copyLists(r.lists), copyAllTee(r.tee)}
+	return result{slices.Clone(r.list), impl.Pipe{Nodes: slices.Clone(r.e.Nodes)}, impl.State{Cells: slices.Clone(r.s.Cells)}, slices.Clone(r.pulls), copyLists(r.lists), copyAllTee(r.tee), slices.Clone(r.events)}
 }
 
 // spoilResult overwrites a result with its spare capacity.
@@ -183,6 +204,7 @@ func spoilResult(r result) {
 		spoil(list, strange-1)
 	}
 	spoil(r.lists, []int{strange - 1})
+	spoil(r.events, event(strange-1, 0))
 	spoil(r.tee.Items, strange-1)
 	spoil(r.tee.Places, strange-1)
 	for c, open := range all(r.tee.Open) {
