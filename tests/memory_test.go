@@ -26,6 +26,8 @@ type world struct {
 	code, outer []impl.Order
 	g           impl.Gen
 	resumes     []impl.Resume
+
+	steps []bool
 }
 
 // result is what a function returns.
@@ -38,6 +40,7 @@ type result struct {
 	tee   impl.Tee
 
 	events []impl.Event
+	steps  []bool
 }
 
 // call is a function, and its result.
@@ -108,6 +111,12 @@ func (w world) withCodes(code, outer []impl.Order, g impl.Gen, list []impl.Resum
 	return w
 }
 
+// withSteps returns arguments that have the steps of a queue, and a number.
+func (w world) withSteps(steps []bool, k int) world {
+	w.steps, w.k = roomy(steps, true), k
+	return w
+}
+
 // all returns a list with its spare capacity.
 func all[T any](list []T) []T {
 	return list[:cap(list)]
@@ -125,12 +134,21 @@ func spoil[T any](list []T, with T) {
 	}
 }
 
+// spoilBools overwrites a list with its spare capacity. Neither of the two values
+// is strange, so that each becomes the other one.
+func spoilBools(list []bool) {
+	for i, is := range all(list) {
+		all(list)[i] = !is
+	}
+}
+
 // sameWorld reports whether all arguments are the same, the spare capacity
 // included.
 func sameWorld(v, w world) bool {
 	same := slices.Equal(all(v.e.Nodes), all(w.e.Nodes)) && slices.Equal(all(v.f.Nodes), all(w.f.Nodes)) && slices.Equal(all(v.to), all(w.to))
 	same = same && slices.Equal(all(v.s.Cells), all(w.s.Cells)) && sameTee(allTee(v.tee), allTee(w.tee))
 	same = same && slices.Equal(all(v.code), all(w.code)) && slices.Equal(all(v.outer), all(w.outer)) && slices.Equal(all(v.resumes), all(w.resumes))
+	same = same && slices.Equal(all(v.steps), all(w.steps))
 	return same && sameLists(v.src, w.src) && sameLists(v.other, w.other)
 }
 
@@ -170,6 +188,7 @@ func copyWorld(w world) world {
 	out.src, out.other = copyLists(w.src), copyLists(w.other)
 	out.tee = copyAllTee(w.tee)
 	out.code, out.outer, out.resumes = copyAll(w.code), copyAll(w.outer), copyAll(w.resumes)
+	out.steps = copyAll(w.steps)
 	return out
 }
 
@@ -180,18 +199,19 @@ func spoilWorld(w world) {
 	spoil(w.code, order(strange-1, 0, 0))
 	spoil(w.outer, order(strange-1, 0, 0))
 	spoil(w.resumes, resume(strange-1, 0))
+	spoilBools(w.steps)
 }
 
 // sameResult reports whether two results are the same.
 func sameResult(a, b result) bool {
 	same := slices.Equal(a.list, b.list) && samePipe(a.e, b.e) && slices.Equal(a.s.Cells, b.s.Cells)
 	same = same && slices.Equal(a.pulls, b.pulls) && sameSources(a.lists, b.lists) && sameTee(a.tee, b.tee)
-	return same && slices.Equal(a.events, b.events)
+	return same && slices.Equal(a.events, b.events) && slices.Equal(a.steps, b.steps)
 }
 
 // copyResult returns the same result in other memory.
 func copyResult(r result) result {
-	return result{slices.Clone(r.list), impl.Pipe{Nodes: slices.Clone(r.e.Nodes)}, impl.State{Cells: slices.Clone(r.s.Cells)}, slices.Clone(r.pulls), copyLists(r.lists), copyAllTee(r.tee), slices.Clone(r.events)}
+	return result{slices.Clone(r.list), impl.Pipe{Nodes: slices.Clone(r.e.Nodes)}, impl.State{Cells: slices.Clone(r.s.Cells)}, slices.Clone(r.pulls), copyLists(r.lists), copyAllTee(r.tee), slices.Clone(r.events), slices.Clone(r.steps)}
 }
 
 // spoilResult overwrites a result with its spare capacity.
@@ -207,9 +227,8 @@ func spoilResult(r result) {
 	spoil(r.events, event(strange-1, 0))
 	spoil(r.tee.Items, strange-1)
 	spoil(r.tee.Places, strange-1)
-	for c, open := range all(r.tee.Open) {
-		all(r.tee.Open)[c] = !open // neither of the two values is strange
-	}
+	spoilBools(r.tee.Open)
+	spoilBools(r.steps)
 }
 
 // apart reports whether no two lists share memory. It overwrites each one.
